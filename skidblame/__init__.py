@@ -1,0 +1,1 @@
+"""Skidblame: samples of a running program that point too far."""
