@@ -8,8 +8,8 @@ from skidblame.walks import shortest
 
 def _ways(program, watcher, told):
     """Return a dict from each place where a sample can be taken next, to a shortest stretch."""
-    # A stretch that passes a place twice can be cut there, so that one to each place that can
-    # be come to at all has no more steps than there are other places.
+    # Behind its gap steps a stretch that comes to a place twice can be cut short there, so that
+    # no more further steps are needed than there are other places.
     spare = len(program) - 1
     if told == -1:
         return shortest(program, 0, 0, spare, ())
