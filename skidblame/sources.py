@@ -82,3 +82,12 @@ def stretch_of(source, move):
     way = _ways(source.program, source.watcher, told)[taken]
     skid = _slides(source.program, source.watcher, taken)[goal]
     return way + skid[1:], len(way) - 1
+
+
+def is_skid(source, stretch):
+    """Tell whether a stretch of the source's program is a skid."""
+    low, high, marks = source.watcher[2], source.watcher[3], source.watcher[4]
+    steps, last = len(stretch) - 1, stretch[-1]
+    if steps > high or any([place in marks for place in stretch[:-1]]):
+        return False
+    return steps >= low or last in marks or len(source.program[last][1]) == 0

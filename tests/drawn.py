@@ -1,5 +1,7 @@
 """Programs, watchers and numbers that are drawn by arithmetic, the same ones each time."""
 
+from skidblame.sources import Source
+
 
 class Draw:
     """Numbers of a linear congruence."""
@@ -45,3 +47,18 @@ def all_watchers(many, gaps, highs):
         for gap in range(1, gaps + 1) for wide in (None, gap, gap + 1, gap + 2)
         for high in range(highs + 1) for low in range(high + 1) for mask in range(2 ** many)
     ]
+
+
+def drawn_sources(seed, many, places, gaps=3, highs=4):
+    """A few drawn programs with watchers: each with its source, and the drawing to go on with."""
+    draw = Draw(seed)
+    for _ in range(many):
+        program = draw.program(places)
+        watcher = draw.watcher(len(program), gaps, highs)
+        yield draw, program, watcher, Source(program, watcher)
+
+
+def drawn_weights(draw, many):
+    """Weights that are often the same, or at their limits, for so many places."""
+    reach = (1, 3, 10 ** 6)[draw.below(3)]
+    return tuple([draw.below(2 * reach + 1) - reach for _ in range(many)])

@@ -31,6 +31,46 @@ stretch_of(source, (1, 0, 1)), stretch_of(source, (-1, 1, 1))]
 [(-1, 0, 1), (-1, 1, 1)]
 """
 
+FITTINGS = """
+>>> from skidblame.fittings import fitting, how_many, is_fitting, reached, run_of, shows_run
+>>> from skidblame.programs import made
+>>> from skidblame.sources import Source
+>>> source = Source((("a", (1,)), ("b", (2,)), ("c", (0,))), made(high=1))
+>>> [reached(source, ["b", "b"]), fitting(source, ["b", "b"]), how_many(source, ["b", "b"]), \
+is_fitting(source, ["b"], [(1, 1)]), fitting(source, ["x"])]
+[[[-1], [1], [1]], [(0, 1), (0, 1)], 4, True, None]
+>>> [run_of(source, [(0, 1), (0, 1)]), shows_run(source, [(0, 1)], ([0, 1, 2], [(0, 1)])), \
+shows_run(source, [(0, 1)], ([0, 1, 2], [(0, 2)]))]
+[([0, 1, 2, 0, 1], [(0, 1), (3, 4)]), True, False]
+"""
+
+WEIGHTS = """
+>>> from skidblame.programs import made
+>>> from skidblame.sources import Source
+>>> from skidblame.weights import counts, greatest, least, shows_least, surely
+>>> source, told = Source((("a", (1,)), ("b", (2,)), ("c", (0,))), made(high=1)), ["b", "b"]
+>>> [least(source, told, (1, 0, 0))[:2], greatest(source, told, (1, 0, 0))[:2], counts(source, told, (0, 2)), \
+surely(source, told)]
+[(0, [(1, 1), (1, 1)]), (2, [(0, 1), (0, 1)]), (0, 2), [(0, 2), (1, 2)]]
+>>> [shows_least(source, told, (1, 0, 0), (0, [(1, 1), (1, 1)], [{-1: 0}, {1: 0}, {1: 0}])), \
+shows_least(source, told, (1, 0, 0), (1, [(0, 1), (1, 1)], [{-1: 0}, {1: 0}, {1: 0}]))]
+[True, False]
+"""
+
+SPREAD = """
+>>> from skidblame.programs import made
+>>> from skidblame.sources import Source
+>>> from skidblame.spread import growth, shows_growth, shows_spread, spread_bounds, spread_of
+>>> fork = (("s", (1, 2)), ("x", (3,)), ("x", (3,)), ("y", (3,)))
+>>> source = Source(fork, made(wide=1))
+>>> [spread_of(source, (0, 1, 0, 0)), spread_bounds(source, (0, 1, 0, 0)), growth(source, (0, 1, 0, 0))]
+[1, {(-1, -1): 0, (0, 0): 0, (1, 1): 0, (1, 2): 1, (2, 1): -1, (2, 2): 0, (3, 3): 1}, None]
+>>> free = Source((("a", (1, 2)), ("b", (0,)), ("b", (0,))), made(gap=2, wide=2))
+>>> [spread_of(free, (0, 1, 0)), shows_growth(free, (0, 1, 0), ([(1, 1), (1, 1)], [(2, 2), (2, 2)], 1)), \
+shows_spread(source, (0, 1, 0, 0), 2, {})]
+[None, True, False]
+"""
+
 
 class Examples(unittest.TestCase):
     def shows(self, text, many):
@@ -47,6 +87,15 @@ class Examples(unittest.TestCase):
 
     def test_sources(self):
         self.shows(SOURCES, 6)
+
+    def test_fittings(self):
+        self.shows(FITTINGS, 6)
+
+    def test_weights(self):
+        self.shows(WEIGHTS, 6)
+
+    def test_spread(self):
+        self.shows(SPREAD, 8)
 
 
 if __name__ == "__main__":

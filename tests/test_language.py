@@ -1,6 +1,7 @@
-"""Rules of the language that a look at the files can tell: L1, L2, L7, L8, L10, L12, L14, L16."""
+"""Rules of the language that a look at the files can tell: L1, L2, L7, L8, L10, L12, L14 to L16, L25."""
 
 import ast
+import builtins
 import os
 import unittest
 
@@ -11,6 +12,13 @@ BUILTINS = (
     "Exception ValueError TypeError KeyError IndexError LookupError ZeroDivisionError StopIteration NotImplemented"
 ).split()
 LIBRARY = ("heapq", "math", "itertools", "collections", "__future__")
+METHODS = (
+    "append clear copy count endswith extend find get index insert isalnum isalpha isdigit islower isspace isupper items "
+    "join keys ljust lower lstrip partition pop remove replace reverse rfind rjust rpartition rsplit rstrip setdefault "
+    "split splitlines startswith strip update upper values zfill bit_length"
+).split()
+# A doctest leaves its last answer among the builtins as _, which L12 lets be assigned.
+ALL_BUILTINS = [word for word in dir(builtins) if word != "_"]
 BARRED = (ast.AsyncFunctionDef, ast.Await, ast.Div, ast.Import)
 # Source has an __eq__, so that these take a list instead of a generator expression (L7).
 TAKE_LISTS = ("any", "all", "min", "max", "sum", "sorted")
@@ -78,16 +86,34 @@ class Language(unittest.TestCase):
                     self.assertFalse(any(isinstance(arg, ast.GeneratorExp) for arg in node.args), (name, node.lineno))
 
     def test_no_name_is_a_builtin(self):
-        barred = dir(__builtins__) if not isinstance(__builtins__, dict) else list(__builtins__)
         for name, text in texts():
-            taken = [bound for bound in bound_names(ast.parse(text)) if bound in barred and not bound.startswith("__")]
+            taken = [bound for bound in bound_names(ast.parse(text)) if bound in ALL_BUILTINS and not bound.startswith("__")]
             self.assertEqual([], taken, name)
 
+    def test_no_name_is_an_import_or_a_class_of_its_file(self):
+        for name, text in texts():
+            taken, local = [], []
+            for node in ast.walk(ast.parse(text)):
+                if isinstance(node, ast.ImportFrom):
+                    taken.extend(alias.asname or alias.name for alias in node.names)
+                elif isinstance(node, ast.ClassDef):
+                    taken.append(node.name)
+                elif isinstance(node, (ast.FunctionDef, ast.arg, ast.Name)) and not isinstance(getattr(node, "ctx", 0), ast.Load):
+                    local.append(getattr(node, "name", None) or getattr(node, "arg", None) or node.id)
+            self.assertEqual([], [word for word in taken if word in local], name)
+            self.assertEqual(len(taken), len(set(taken)), name)
+
+    def test_methods(self):
+        own = [node.name for _, text in texts() for node in ast.walk(ast.parse(text)) if isinstance(node, ast.FunctionDef)]
+        for name, text in texts():
+            for node in ast.walk(ast.parse(text)):
+                if isinstance(node, ast.Call) and isinstance(node.func, ast.Attribute):
+                    self.assertIn(node.func.attr, METHODS + own, (name, node.lineno))
+
     def test_only_builtins_of_the_language(self):
-        everything = dir(__builtins__) if not isinstance(__builtins__, dict) else list(__builtins__)
         for name, text in texts():
             read = [node.id for node in ast.walk(ast.parse(text)) if isinstance(node, ast.Name)]
-            self.assertEqual([], [word for word in read if word in everything and word not in BUILTINS], name)
+            self.assertEqual([], [word for word in read if word in ALL_BUILTINS and word not in BUILTINS], name)
 
 
 if __name__ == "__main__":
