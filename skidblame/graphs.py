@@ -5,27 +5,44 @@ step leads back to the node at which the ways start.
 """
 
 
-def _raise_once(graph, sums, ahead):
-    """Raise the sums by each step once, noting the node ahead; return a node that it raised, or None."""
-    raised = None
-    for node in graph:
-        if node in sums:
-            for goal, gain in graph[node].items():
-                if goal not in sums or sums[node] + gain > sums[goal]:
-                    sums[goal] = sums[node] + gain
-                    ahead[goal] = node
-                    raised = goal
-    return raised
+def _raise_once(graph, sums, ahead, risen):
+    """Raise the sums by each step from the nodes that have risen; return the dict of those that rise by this."""
+    after = {}
+    for node in risen:
+        for goal, gain in graph[node].items():
+            if goal not in sums or sums[node] + gain > sums[goal]:
+                sums[goal] = sums[node] + gain
+                ahead[goal] = node
+                after[goal] = True
+    return after
+
+
+def _ring_among(ahead):
+    """Return a ring that the nodes ahead make up, its first node again at its end; or None."""
+    begun = {}
+    for begin in ahead:
+        node = begin
+        while node in ahead and node not in begun:
+            begun[node] = begin
+            node = ahead[node]
+        if node in begun and begun[node] == begin:
+            backwards = [node, ahead[node]]
+            while backwards[-1] != node:
+                backwards.append(ahead[backwards[-1]])
+            return backwards[::-1]
+    return None
 
 
 def _climbed(graph, start):
-    """Return the sums that are reached from start, the nodes ahead, and a node that still rises, or None."""
-    sums, ahead, raised = {start: 0}, {}, start
-    for _ in graph:
-        raised = _raise_once(graph, sums, ahead)
-        if raised is None:
-            break
-    return sums, ahead, raised
+    """Return the greatest sums, the nodes ahead and None, or, if there are ever greater ones, a ring as third."""
+    sums, ahead, risen, ring = {start: 0}, {}, {start: True}, None
+    # As long as the nodes ahead make up no ring, a sum is at most that of the way back to start. So
+    # in the end either nothing rises, or there is a ring; and a node is only noted as ahead if its
+    # step raises, so that a ring gains.
+    while len(risen) > 0 and ring is None:
+        risen = _raise_once(graph, sums, ahead, risen)
+        ring = _ring_among(ahead)
+    return sums, ahead, ring
 
 
 def way_back(ahead, node):
@@ -41,23 +58,13 @@ def greatest_sums(graph, start):
 
     Return None if there are ever greater ones.
     """
-    sums, ahead, raised = _climbed(graph, start)
-    return (sums, ahead) if raised is None else None
+    sums, ahead, ring = _climbed(graph, start)
+    return (sums, ahead) if ring is None else None
 
 
 def gaining_ring(graph, start):
     """Return a ring that start leads to and that gains, its first node again at its end; or None."""
-    _, ahead, raised = _climbed(graph, start)
-    if raised is None:
-        return None
-    # A node that rises after as many rounds as there are nodes has a ring among those ahead of it,
-    # and as many steps back lead into it; a node is only noted as ahead if it raises, so it gains.
-    for _ in graph:
-        raised = ahead[raised]
-    backwards = [raised, ahead[raised]]
-    while backwards[-1] != raised:
-        backwards.append(ahead[backwards[-1]])
-    return backwards[::-1]
+    return _climbed(graph, start)[2]
 
 
 def first_way(graph, start, goal):

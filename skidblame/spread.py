@@ -95,14 +95,13 @@ def _is_pair(source, thing):
     return thing == START or all([is_number(place, 0, len(source.program) - 1) for place in thing])
 
 
-def shows_spread(source, weights, value, thing):
-    """Tell whether any object is bounds of differences with value as their greatest value."""
-    check_weights(source, weights)
+def is_bounds(source, weights, thing):
+    """Tell whether any object is bounds of differences."""
     if not isinstance(thing, dict) or not all([_is_pair(source, node) for node in thing]):
         return False
-    if not is_integer(value) or not all([is_integer(bound) for bound in thing.values()]):
+    if not all([is_integer(bound) for bound in thing.values()]):
         return False
-    if START not in thing or thing[START] < 0 or max(thing.values()) != value:
+    if START not in thing or thing[START] < 0:
         return False
     graph = Pairs(source, weights).graph()
     for node in thing:
@@ -110,6 +109,14 @@ def shows_spread(source, weights, value, thing):
             if goal not in thing or thing[goal] < thing[node] + gain:
                 return False
     return True
+
+
+def shows_spread(source, weights, value, thing):
+    """Tell whether any object is bounds of differences with value as their greatest value."""
+    check_weights(source, weights)
+    if not is_integer(value) or not is_bounds(source, weights, thing):
+        return False
+    return max(thing.values()) == value
 
 
 def shows_growth(source, weights, thing):

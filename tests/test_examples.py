@@ -71,6 +71,58 @@ shows_spread(source, (0, 1, 0, 0), 2, {})]
 [None, True, False]
 """
 
+SHARES = """
+>>> from skidblame.programs import made
+>>> from skidblame.shares import excess_of, gains_of, share_bounds, share_of, shows_bounds, shows_round, worst_round
+>>> from skidblame.sources import Source
+>>> source = Source((("a", (1,)), ("b", (0,))), made(wide=1))
+>>> gains = gains_of(source, (1, 0), (0, 0))
+>>> [gains, share_of(source, gains), share_bounds(source, gains), excess_of(source, gains)]
+[((1, 1), (0, 0)), (1, 2), {-1: 0, 0: 1, 1: 0}, 1]
+>>> [shows_round(source, gains, (1, 2), ([(0, 0), (1, 1), (0, 0)], 1)), shows_bounds(source, gains, (1, 3), \
+{-1: 0, 0: 2, 1: 1}), shows_bounds(source, gains, (2, 3), {-1: 0, 0: 1, 1: 0})]
+[True, False, True]
+"""
+
+RULES = """
+>>> from skidblame.programs import made
+>>> from skidblame.rules import best_rules, best_papers, rules_of, shows_best, wrong_share
+>>> from skidblame.sources import Source
+>>> source = Source((("a", (1,)), ("b", (0,))), made(wide=1, low=1, high=1))
+>>> [list(rules_of(source)), wrong_share(source, (0, 1)), wrong_share(source, (1, 0)), best_rules(source)]
+[[(0, 0), (0, 1), (1, 0), (1, 1)], (1, 1), (0, 1), ((0, 1), [(1, 0)])]
+>>> [shows_best(source, (*best_rules(source), best_papers(source))), shows_best(source, ((0, 1), [(1, 0)], []))]
+[True, False]
+"""
+
+COVERS = """
+>>> from skidblame.covers import apart, behind, difference, is_within, shows_cover
+>>> from skidblame.programs import made
+>>> from skidblame.sources import Source
+>>> ring, line = Source((("a", (1,)), ("b", (2,)), ("c", (0,))), made()), Source((("a", (1,)), ("b", (2,)), \
+("c", ())), made())
+>>> [behind(line, (-1,), "b"), behind(line, (0, 1), "c"), apart(ring, line), difference(line, ring), \
+is_within(line, ring)]
+[(1,), (2,), ['a', 'a'], ['a', 'a'], True]
+>>> shows_cover(line, ring, [(-1, (-1,)), (0, (0,)), (1, (1,)), (2, (2,))])
+True
+"""
+
+MENDS = """
+>>> from skidblame.mends import breach, cheapest, choices, greatest_high, marked, settled, shows_breach, \
+shows_cheapest
+>>> from skidblame.programs import made
+>>> from skidblame.sources import Source
+>>> source, offers = Source((("a", (1,)), ("b", (2,)), ("c", (0,))), made(wide=1, high=1)), [(0, 3), (1, 1), (2, 2)]
+>>> [list(choices(offers)), settled(source, (1, 0, 0), 0), breach(source, (1, 0, 0), 1), greatest_high(source, \
+(1, 0, 0), 0), greatest_high(source, (1, 0, 0), 1)]
+[[(), (1,), (2,), (0,), (1, 2), (0, 1), (0, 2), (0, 1, 2)], False, None, 0, 30]
+>>> found = cheapest(source, (1, 0, 0), 0, offers)
+>>> [found[:2], [reason[0] for reason in found[3]], marked(source, offers, found[0]).watcher, \
+shows_cheapest(source, (1, 0, 0), 0, offers, found), shows_breach(source, (1, 0, 0), 0, ([(0, 0)], [(2, 0)]))]
+[((0, 2), 5), [(), (1,), (2,), (0,), (1, 2), (0, 1)], (1, 1, 0, 1, (0, 2)), True, True]
+"""
+
 
 class Examples(unittest.TestCase):
     def shows(self, text, many):
@@ -96,6 +148,18 @@ class Examples(unittest.TestCase):
 
     def test_spread(self):
         self.shows(SPREAD, 8)
+
+    def test_shares(self):
+        self.shows(SHARES, 7)
+
+    def test_rules(self):
+        self.shows(RULES, 6)
+
+    def test_covers(self):
+        self.shows(COVERS, 6)
+
+    def test_mends(self):
+        self.shows(MENDS, 7)
 
 
 if __name__ == "__main__":

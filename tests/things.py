@@ -66,3 +66,39 @@ def holders(answer):
         for part in answer:
             found.extend(holders(part))
     return found
+
+
+def no_gains(many, signs):
+    """New objects that are no gains for so many places and signs, some of them nearly such."""
+    row, rest = (0,) * signs, ((0,) * signs,) * (many - 1)
+    near = [[row] * many, rest, (*rest, row, row), (*rest, list(row)), (*rest, row[1:]), (*rest, (*row, 0)), (*rest, None),
+            (*rest, 0), (*rest, {0: 0}), (*rest, "0" * signs), ((*row[1:], True), *rest), ((False, *row[1:]), *rest),
+            (*rest, (*row[1:], None)), (*rest, (*row[1:], "0")), (*rest, (*row[1:], (0,))), ((*row[1:], [0]), *rest),
+            (*rest, (*row[1:], 10 ** 6 + 1)), ((-10 ** 6 - 1, *row[1:]), *rest), (*rest, (10 ** 12, *row[1:])),
+            ((*row[1:], -10 ** 12), *rest), {0: row}, row, (row,) * (many + 8), 0, True, None]
+    return near + [thing for thing in odd_things() if thing not in (((0, 1), (1, 0)), (1, 2), (False,))]
+
+
+def no_rules(many, signs):
+    """New objects that are no rule for so many places and signs, some of them nearly one."""
+    rest = (0,) * (signs - 1)
+    near = [[0] * signs, rest, (*rest, 0, 0), (*rest, True), (False, *rest), (*rest, None), (*rest, "0"), (*rest, -1),
+            (*rest, many), (10 ** 12, *rest), (*rest, (0,)), (*rest, [0]), {0: 0}, 0, True, None, "a", "0" * signs, ((0,) * signs,)]
+    return near + [thing for thing in odd_things() if thing != (1, 2)]
+
+
+def no_offers(free, taken, many):
+    """New objects that are no list of offers, some of them nearly one: of two free places and a marked one of so many."""
+    one, other = free
+    near = [((one, 1),), (one, 1), [(one, 1), (one, 1)], [(one, 1), (other, 2), (one, 3)], [(taken, 1)], [(one, 1), (taken, 0)],
+            [(one, -1)], [(one, -10 ** 12)], [(-1, 1)], [(many, 1)], [(10 ** 12, 1)], [[one, 1]], [(one,)], [(one, 1, 1)], [one],
+            [(one, None)], [(one, True)], [(one, False)], [(True, 1)], [(False, 1)], [(None, 1)], [("0", 1)], [(one, "1")],
+            [(one, (1,))], [((one,), 1)], [{one: 1}], {one: 1}, {(one, 1): True}, [(one, 1), None], [None], [()], [[]], None, 0, True]
+    return near + [thing for thing in odd_things() if thing != []]
+
+
+def no_choices(many):
+    """New objects that are no choice of so many offers, at least two."""
+    near = [[], [0], [0, 1], (1, 0), (0, 0), (many,), (0, many), (-1,), (-1, 0), (True,), (0, True), (False,), (None,), ("0",),
+            ((0,),), ((),), ([],), {}, {0: 1}, None, 0, True, "", "0", (0, 1, 1), (10 ** 12,)]
+    return near + [thing for thing in odd_things() if thing not in ((), (1, 2))]
