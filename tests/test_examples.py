@@ -123,6 +123,57 @@ shows_cheapest(source, (1, 0, 0), 0, offers, found), shows_breach(source, (1, 0,
 [((0, 2), 5), [(), (1,), (2,), (0,), (1, 2), (0, 1)], (1, 1, 0, 1, (0, 2)), True, True]
 """
 
+LIVE = """
+>>> from skidblame.live import Watch, widths
+>>> from skidblame.programs import made
+>>> from skidblame.sources import Source
+>>> watch = Watch(Source((("a", (1,)), ("b", (2,)), ("c", (0,))), made(wide=1, high=1)))
+>>> watch.keep("zero", (1, 0, 0))
+>>> [watch("b"), watch.between("zero"), watch("a"), watch.between("zero"), watch.places, watch.signs]
+[[1], (0, 1), [0], (0, 1), [0], ['b', 'a']]
+>>> watch.keep("one", (0, 1, 0))
+>>> [watch.between("one"), widths(watch), watch.undo(), watch("c"), watch.between("one"), len(watch), "one" in watch]
+[(0, 1), {'one': 1, 'zero': 1}, None, [2], (0, 1), 2, True]
+"""
+
+DESK = """
+>>> from skidblame.desk import Desk
+>>> from skidblame.errors import Unkept
+>>> from skidblame.programs import made
+>>> from skidblame.sources import Source
+>>> desk = Desk(Source((("a", (1,)), ("b", (2,)), ("c", (0,))), made(wide=1)))
+>>> [desk.do(("weights", "zero", (1, 0, 0))), desk.do(("promise", "zero", 0)), desk.promises(), desk.do(("mark", 0))]
+[None, None, {'zero': 0}, None]
+>>> watch = desk.live()
+>>> [desk.do(("promise", "zero", 1)), desk.do(("watch", 1, 1, 0, 1)), desk.now.watcher, desk.undo(), \
+desk.now.watcher, watch("a"), watch.between("zero")]
+[None, None, (1, 1, 0, 1, (0,)), None, (1, 1, 0, 0, (0,)), [0], (1, 1)]
+>>> [len(desk.notes()), "zero" in desk, desk["zero"], desk.names()]
+[4, True, (1, 0, 0), ['zero']]
+"""
+
+TEXTS = """
+>>> from skidblame.texts import format_fitting, format_program, format_told, format_watcher, parse_program, \
+parse_told, parse_watcher, parse_weights
+>>> [parse_program("a > 1; b > 0 1;end"), format_program((("a", (1,)), ("b", ()))), \
+parse_watcher("high 2,marks 0 3"), format_watcher((1, None, 0, 2, (0, 3)))]
+[(('a', (1,)), ('b', (0, 1)), ('end', ())), 'a > 1; b', (1, None, 0, 2, (0, 3)), 'gap 1, wide none, low 0, \
+high 2, marks 0 3']
+>>> [parse_told("a b a"), format_told([]), parse_weights("1 -5 0"), format_fitting([(0, 1), (2, 2)])]
+[['a', 'b', 'a'], '-', (1, -5, 0), '0 1, 2 2']
+"""
+
+CONSOLE = """
+>>> from skidblame.console import Console
+>>> console = Console()
+>>> [console.execute(line) for line in ["open : a > 1; b > 2; c > 0 : high 1", "weights zero : 1 0 0", \
+"fit : b b", "many : b b", "between zero : b b", "sure : b b"]]
+['ok', 'ok', '0 1, 0 1', '4', '0 2', '0 2, 1 2']
+>>> [console.execute(line) for line in ["watch 1 1 0 1", "spread zero", "live", "tell 0 b", "seen 0 zero", \
+"mark 0", "watcher", "names"]]
+['ok', '1', '0', '1', '0 1', 'ok', 'gap 1, wide 1, low 0, high 1, marks 0', 'zero']
+"""
+
 
 class Examples(unittest.TestCase):
     def shows(self, text, many):
@@ -160,6 +211,18 @@ class Examples(unittest.TestCase):
 
     def test_mends(self):
         self.shows(MENDS, 7)
+
+    def test_live(self):
+        self.shows(LIVE, 8)
+
+    def test_desk(self):
+        self.shows(DESK, 9)
+
+    def test_texts(self):
+        self.shows(TEXTS, 3)
+
+    def test_console(self):
+        self.shows(CONSOLE, 4)
 
 
 if __name__ == "__main__":
