@@ -1,10 +1,9 @@
 """Desks: a source and weights that are changed by operations, none of which breaks a promise."""
 
-from skidblame.errors import Mismatch, NoFit, NoMark, NoName, NoProgram, NoWatcher, TooMany, Unkept
+from skidblame.errors import Mismatch, NoFit, NoMark, NoName, NoProgram, TooMany, Unkept
 from skidblame.live import MOST_NAMES, Watch
 from skidblame.mends import breach
 from skidblame.names import is_name, is_number
-from skidblame.programs import is_program, is_watcher
 from skidblame.sources import Source
 from skidblame.weights import check_weights
 
@@ -41,7 +40,7 @@ def _check_kept(standing, names):
 
 
 def _with_source(standing, program, watcher):
-    """Return the standing with another source, behind a look at all promises."""
+    """Return the standing with another source; raise NoProgram, NoWatcher or Unkept if it cannot be."""
     found = Standing(Source(program, watcher), standing.weights, standing.bounds)
     _check_kept(found, list(found.bounds))
     return found
@@ -54,16 +53,11 @@ def _without(table, name):
 def _place(standing, at, sign, nexts):
     _check_place(standing.source, at)
     program = standing.source.program
-    program = (*program[:at], (sign, nexts), *program[at + 1:])
-    if not is_program(program):
-        raise NoProgram("the program with this place is none")
-    return _with_source(standing, program, standing.source.watcher)
+    return _with_source(standing, (*program[:at], (sign, nexts), *program[at + 1:]), standing.source.watcher)
 
 
 def _watch(standing, gap, wide, low, high):
     watcher = (gap, wide, low, high, standing.source.watcher[4])
-    if not is_watcher(watcher):
-        raise NoWatcher("the watcher with these numbers is none")
     return _with_source(standing, standing.source.program, watcher)
 
 

@@ -158,8 +158,12 @@ class Lines(Case):
             head = line.split(" : ")[0]
             self.refuses(console, InvalidCommand, f" {line}", line.replace(head, f"{head} ", 1), line.replace(head.split(" ")[0], head.split(" ")[0] + " ", 1))
             for at in range(len(head)):
-                if head[at] == " ":
-                    self.refuses(console, InvalidCommand, f"{head[:at]} {line[at:]}", f"{line[:at]}\t{line[at + 1:]}" if line[:at].count(" ") == 0 else "")
+                if head[at] == " " and head[:at].count(" ") == 0:
+                    self.refuses(console, InvalidCommand, f"{line[:at]} {line[at:]}", f"{line[:at]}\t{line[at + 1:]}")
+        # A word of no character is none, not even where any word may stand.
+        self.refuses(
+            console, InvalidCommand, "drop ", "get ", "release ", "spread ", "weights  : 1 0 0", "between  : b", "promise  0", "high  0", "tell 0 ",
+            "seen 0 ", "place 0 ", "place 0  1", "place  a 1")
 
     def test_words_too_few_or_too_many(self):
         console = console_of(RING, *KEPT)
@@ -193,7 +197,7 @@ class Lines(Case):
 
     def test_numbers(self):
         console = console_of(RING, *KEPT)
-        for word in ("-1", "00", "01", "0000000", "1000001", "10000000", "9" * 4000, "a", "1a", "+1", "1.0", "none", "0x1", "1_0", "\t0", "0\n", "-0"):
+        for word in ("-1", "00", "01", "0000000", "1000001", "10000000", "9" * 4900, "a", "1a", "+1", "1.0", "none", "0x1", "1_0", "\t0", "0\n", "-0"):
             self.refuses(
                 console, InvalidCommand, f"mark {word}", f"place {word} a", f"place 0 a {word}", f"place 0 a 0 {word}", f"watch {word} none 0 0",
                 f"watch 1 none {word} 0", f"watch 1 none 0 {word}", f"promise zero {word}", f"high zero {word}", f"tell {word} b", f"at {word}")

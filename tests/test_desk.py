@@ -108,7 +108,8 @@ class Refused(unittest.TestCase):
         desk = ring_desk(*KEPT)
         right = [("place", 0, "a", (1,)), ("watch", 1, 1, 0, 0), ("mark", 0), ("unmark", 0), ("weights", "w", W), ("drop", "zero"),
                  ("promise", "zero", 0), ("release", "zero")]
-        near = [("undo",), ("redo",), ("",), ("Mark", 0), ("mark ", 0), ("marks", 0), (0, 0), (None, 0), (("mark",), 0), ("mark", 0, 0, 0, 0)]
+        near = [("undo",), ("redo",), ("",), ("Mark", 0), ("mark ", 0), ("marks", 0), (0, 0), (None, 0), (("mark",), 0), ("mark", 0, 0, 0, 0),
+                ([], 0), ({}, 0), (["mark"], 0), (([],), 0), (("mark",), 0)]
         for operation in right:
             near += [operation[:-1], (*operation, 0), list(operation), [operation], (operation,), operation[0], {operation[0]: operation[1:]}]
         for thing in near + odd_things():

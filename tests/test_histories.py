@@ -15,7 +15,7 @@ from skidblame.sources import Source
 from skidblame.spread import spread_of
 from skidblame.texts import format_fitting, format_program, format_told, format_watcher, format_weights
 from skidblame.weights import greatest, least, surely
-from tests.drawn import Draw, drawn_sources, drawn_weights
+from tests.drawn import drawn_sources, drawn_weights
 
 
 def raised(function, *things):
